@@ -1,0 +1,179 @@
+package frac
+
+import (
+	"math/big"
+	"math/rand"
+	"strings"
+	"testing"
+
+	"voltaic/api"
+)
+
+func TestOfTellsLowestTerms(t *testing.T) {
+	for q, want := range map[api.Q]api.Q{
+		"0": "0", "-0": "0", "0/5": "0", "-0/3": "0", "000": "0",
+		"7": "7", "-007": "-7", "6/4": "3/2", "-6/4": "-3/2", "8/4": "2", "1/010": "1/10", "08/5": "8/5",
+		"4294967296/8589934592": "1/2",
+		"123456789012345678901234567890/1000000000000000000000000000000000000": "12345678901234567890123456789/100000000000000000000000000000000000",
+	} {
+		if got := Of(q).Q(); got != want {
+			t.Errorf("Of(%q): %q, want %q", q, got, want)
+		}
+	}
+}
+
+func TestOfCountsOthersAsZero(t *testing.T) {
+	for _, q := range []api.Q{"", "-", "/", "-/", "1/", "/1", "1/0", "-1/00", "0/0", "+1", "--1", "1/-2", "1/2/3", " 1", "1 ", "1.5", "1e3", "0x1", "1_0", "١", "\xff", "1\x00"} {
+		if got := Of(q); got.Q() != "0" || got.Sign() != 0 {
+			t.Errorf("Of(%q): %q, want 0", q, got.Q())
+		}
+	}
+}
+
+func TestZeroValueIsZero(t *testing.T) {
+	var x F
+	decimal, ok := x.Decimal(1)
+	if x.Q() != "0" || x.Sign() != 0 || x.Compare(Of("0")) != 0 || x.Times(Of("3/2")).Q() != "0" || decimal != "0" || !ok {
+		t.Errorf("the zero value isn't 0: %q, %q", x.Q(), decimal)
+	}
+}
+
+func TestTen(t *testing.T) {
+	for n, want := range map[int]api.Q{0: "1", 1: "10", 2: "100", -1: "1/10", 12: "1000000000000", -15: "1/1000000000000000"} {
+		if got := Ten(n).Q(); got != want {
+			t.Errorf("Ten(%d): %q, want %q", n, got, want)
+		}
+	}
+	if got, want := string(Ten(4000).Q()), "1"+strings.Repeat("0", 4000); got != want {
+		t.Error("Ten(4000) is something else")
+	}
+}
+
+func TestDecimal(t *testing.T) {
+	for _, c := range []struct {
+		q    api.Q
+		most int
+		want string
+		ok   bool
+	}{
+		{"0", 1, "0", true}, {"5", 1, "5", true}, {"10", 2, "10", true}, {"10", 1, "", false},
+		{"1/2", 3, "0.5", true}, {"1/2", 2, "", false}, {"-1/8", 5, "0.125", true}, {"1/8", 4, "", false},
+		{"1/3", 50, "", false}, {"22/7", 50, "", false}, {"100001/1000", 7, "100.001", true},
+	} {
+		got, ok := Of(c.q).Decimal(c.most)
+		if got != c.want || ok != c.ok {
+			t.Errorf("%s in %d bytes: %q, %v, want %q, %v", c.q, c.most, got, ok, c.want, c.ok)
+		}
+	}
+}
+
+// someNat draws words among which the edges of a word are frequent: guesses of a quotient's digits are wrong only there.
+func someNat(r *rand.Rand, most int) nat {
+	x := make(nat, r.Intn(most+1))
+	for i := range x {
+		switch r.Intn(5) {
+		case 0:
+			x[i] = 0
+		case 1:
+			x[i] = maxWord
+		case 2:
+			x[i] = 1 << 31
+		case 3:
+			x[i] = uint32(r.Intn(3))
+		default:
+			x[i] = r.Uint32()
+		}
+	}
+	return trim(x)
+}
+
+func bigOf(x nat) *big.Int {
+	out := new(big.Int)
+	for i := len(x) - 1; i >= 0; i-- {
+		out.Lsh(out, wordBits)
+		out.Or(out, big.NewInt(int64(x[i])))
+	}
+	return out
+}
+
+func sameNat(t *testing.T, what string, got nat, want *big.Int) {
+	t.Helper()
+	if bigOf(got).Cmp(want) != 0 || len(got) > 0 && got[len(got)-1] == 0 {
+		t.Fatalf("%s: %v, want %v", what, got, want)
+	}
+}
+
+func TestNatsAgainstAnotherReckoner(t *testing.T) {
+	r := rand.New(rand.NewSource(1))
+	for range 20000 {
+		x, y := someNat(r, 8), someNat(r, 5)
+		a, b := bigOf(x), bigOf(y)
+		if compare(x, y) != a.Cmp(b) {
+			t.Fatalf("compare %v and %v", x, y)
+		}
+		if x.text() != a.String() {
+			t.Fatalf("text of %v: %s", x, x.text())
+		}
+		sameNat(t, "read", readNat("00"+a.String()), a)
+		sameNat(t, "times", times(x, y), new(big.Int).Mul(a, b))
+		sameNat(t, "divisor", commonDivisor(x, y), new(big.Int).GCD(nil, nil, a, b))
+		if len(y) == 0 {
+			continue
+		}
+		quotient, rest := divide(x, y)
+		q, m := new(big.Int).QuoRem(a, b, new(big.Int))
+		sameNat(t, "quotient", quotient, q)
+		sameNat(t, "rest", rest, m)
+		sameNat(t, "what was handed in", x, a)
+		sameNat(t, "what was handed in", y, b)
+	}
+}
+
+// A guessed digit that is still one too great behind the guess is rare: this is one such.
+func TestDivideGivesBack(t *testing.T) {
+	x, y := nat{0, 0, 1 << 31, 1<<31 - 1}, nat{1, 0, 1 << 31}
+	quotient, rest := divide(x, y)
+	q, m := new(big.Int).QuoRem(bigOf(x), bigOf(y), new(big.Int))
+	sameNat(t, "quotient", quotient, q)
+	sameNat(t, "rest", rest, m)
+}
+
+func someFraction(r *rand.Rand) (F, *big.Rat) {
+	up, down := someNat(r, 4), someNat(r, 3)
+	if len(down) == 0 {
+		down = nat{1}
+	}
+	q := api.Q(up.text() + "/" + down.text())
+	if r.Intn(2) == 0 {
+		q = "-" + q
+	}
+	want, _ := new(big.Rat).SetString(string(q))
+	return Of(q), want
+}
+
+func TestFractionsAgainstAnotherReckoner(t *testing.T) {
+	r := rand.New(rand.NewSource(2))
+	for range 5000 {
+		x, a := someFraction(r)
+		y, b := someFraction(r)
+		if string(x.Q()) != a.RatString() {
+			t.Fatalf("%s, want %s", x.Q(), a.RatString())
+		}
+		if got, want := x.Times(y).Q(), new(big.Rat).Mul(a, b).RatString(); string(got) != want {
+			t.Fatalf("%s times %s: %s, want %s", x.Q(), y.Q(), got, want)
+		}
+		if got, want := x.Compare(y), a.Cmp(b); got != want {
+			t.Fatalf("%s against %s: %d, want %d", x.Q(), y.Q(), got, want)
+		}
+		if got, want := x.Abs().Q(), new(big.Rat).Abs(a).RatString(); string(got) != want {
+			t.Fatalf("%s without its sign: %s, want %s", x.Q(), got, want)
+		}
+		if x.Sign() != a.Sign() {
+			t.Fatalf("sign of %s: %d", x.Q(), x.Sign())
+		}
+		x.Decimal(40)
+		if string(x.Q()) != a.RatString() {
+			t.Fatalf("%s was changed to %s", a.RatString(), x.Q())
+		}
+	}
+}
