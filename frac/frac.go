@@ -42,12 +42,17 @@ func lowest(below bool, up, down nat) F {
 	if len(up) == 0 || len(down) == 0 {
 		return F{}
 	}
-	if common := commonDivisor(up, down); !isOne(common) {
+	if isOne(down) {
+		return F{below, up, nil}
+	}
+	// What goes up without a rest, as it often does where equations are solved, needs no divisor looked for.
+	whole, rest := divide(up, down)
+	if len(rest) == 0 {
+		return F{below, whole, nil}
+	}
+	if common := commonDivisor(down, rest); !isOne(common) {
 		up, _ = divide(up, common)
 		down, _ = divide(down, common)
-	}
-	if isOne(down) {
-		down = nil
 	}
 	return F{below, up, down}
 }
@@ -66,6 +71,17 @@ func (x F) bar() nat {
 		return nat{1}
 	}
 	return x.down
+}
+
+// Bar is what stands below the bar, as a fraction: x times it is whole.
+func (x F) Bar() F { return F{up: x.bar()} }
+
+// timesBar is x times what stands below the bar of y.
+func timesBar(x nat, y F) nat {
+	if len(y.down) == 0 {
+		return x
+	}
+	return times(x, y.down)
 }
 
 // Q tells a fraction as a text.
@@ -88,15 +104,48 @@ func (x F) Sign() int {
 	return sign(len(x.up))
 }
 
+// IsZero tells whether x is 0.
+func (x F) IsZero() bool { return len(x.up) == 0 }
+
+// Bits is how long x is: of no number but 0 it is less than of 1.
+func (x F) Bits() int { return x.up.bits() + x.down.bits() }
+
 // Abs is x without its sign.
 func (x F) Abs() F {
 	x.below = false
 	return x
 }
 
+// Opposite is x with the other sign.
+func (x F) Opposite() F {
+	x.below = !x.below && !x.IsZero()
+	return x
+}
+
+// Plus is the sum.
+func (x F) Plus(y F) F {
+	more, less := timesBar(x.up, y), timesBar(y.up, x)
+	bar := timesBar(x.bar(), y)
+	if x.below == y.below {
+		return lowest(x.below, plus(more, less), bar)
+	}
+	if compare(more, less) < 0 {
+		return lowest(y.below, minus(less, more), bar)
+	}
+	return lowest(x.below, minus(more, less), bar)
+}
+
+// Minus is the difference.
+func (x F) Minus(y F) F { return x.Plus(y.Opposite()) }
+
 // Times is the product.
 func (x F) Times(y F) F {
-	return lowest(x.below != y.below, times(x.up, y.up), times(x.bar(), y.bar()))
+	return lowest(x.below != y.below, times(x.up, y.up), timesBar(x.bar(), y))
+}
+
+// Over is x divided by y; what is divided by 0 counts as 0.
+func (x F) Over(y F) F {
+	return lowest(x.below != y.below, timesBar(x.up, y), timesBar(y.up, x))
 }
 
 // Compare answers -1, 0 or 1, as x is below y, the same, or above it.

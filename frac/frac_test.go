@@ -38,6 +38,22 @@ func TestZeroValueIsZero(t *testing.T) {
 	}
 }
 
+func TestNothingIsShorterThanOne(t *testing.T) {
+	for q, want := range map[api.Q]int{"0": 0, "1": 1, "-1": 1, "2": 2, "-3": 2, "1/2": 3, "1/3": 3, "4294967296": 33, "-5/4294967296": 36} {
+		if got := Of(q).Bits(); got != want {
+			t.Errorf("%s is %d long, want %d", q, got, want)
+		}
+	}
+}
+
+func TestOverZeroIsZero(t *testing.T) {
+	for _, q := range []api.Q{"0", "1", "-2/3"} {
+		if got := Of(q).Over(F{}); got.Q() != "0" {
+			t.Errorf("%s over 0: %s", q, got.Q())
+		}
+	}
+}
+
 func TestTen(t *testing.T) {
 	for n, want := range map[int]api.Q{0: "1", 1: "10", 2: "100", -1: "1/10", 12: "1000000000000", -15: "1/1000000000000000"} {
 		if got := Ten(n).Q(); got != want {
@@ -116,6 +132,13 @@ func TestNatsAgainstAnotherReckoner(t *testing.T) {
 		}
 		sameNat(t, "read", readNat("00"+a.String()), a)
 		sameNat(t, "times", times(x, y), new(big.Int).Mul(a, b))
+		sameNat(t, "plus", plus(x, y), new(big.Int).Add(a, b))
+		if a.Cmp(b) >= 0 {
+			sameNat(t, "minus", minus(x, y), new(big.Int).Sub(a, b))
+		}
+		if x.bits() != a.BitLen() {
+			t.Fatalf("%v has %d bits", x, x.bits())
+		}
 		sameNat(t, "divisor", commonDivisor(x, y), new(big.Int).GCD(nil, nil, a, b))
 		if len(y) == 0 {
 			continue
@@ -136,6 +159,34 @@ func TestDivideGivesBack(t *testing.T) {
 	q, m := new(big.Int).QuoRem(bigOf(x), bigOf(y), new(big.Int))
 	sameNat(t, "quotient", quotient, q)
 	sameNat(t, "rest", rest, m)
+}
+
+func sameDivisor(t *testing.T, x, y nat) {
+	t.Helper()
+	sameNat(t, "divisor", commonDivisor(x, y), new(big.Int).GCD(nil, nil, bigOf(x), bigOf(y)))
+}
+
+// Long ones that have much in common, little, nothing, all; one far longer than the other; some that are nearly the same.
+func TestCommonDivisorsOfLongOnes(t *testing.T) {
+	r := rand.New(rand.NewSource(3))
+	for range 3000 {
+		x, y, common := someNat(r, 30), someNat(r, 30), someNat(r, 15)
+		sameDivisor(t, x, y)
+		sameDivisor(t, times(x, common), times(y, common))
+		sameDivisor(t, times(x, common), common)
+		sameDivisor(t, plus(x, word(uint32(r.Intn(3)))), x)
+		sameDivisor(t, plus(times(x, common), word(1)), times(x, common))
+	}
+}
+
+// Those with which Euclid goes on for longest, and whose quotients are all 1.
+func TestCommonDivisorsOfFibonacci(t *testing.T) {
+	x, y := nat{1}, nat{1}
+	for range 1000 {
+		x, y = plus(x, y), x
+		sameDivisor(t, x, y)
+		sameDivisor(t, times(x, nat{6, 5}), times(y, nat{9, 7}))
+	}
 }
 
 func someFraction(r *rand.Rand) (F, *big.Rat) {
@@ -162,11 +213,33 @@ func TestFractionsAgainstAnotherReckoner(t *testing.T) {
 		if got, want := x.Times(y).Q(), new(big.Rat).Mul(a, b).RatString(); string(got) != want {
 			t.Fatalf("%s times %s: %s, want %s", x.Q(), y.Q(), got, want)
 		}
+		if got, want := x.Plus(y).Q(), new(big.Rat).Add(a, b).RatString(); string(got) != want {
+			t.Fatalf("%s plus %s: %s, want %s", x.Q(), y.Q(), got, want)
+		}
+		if got, want := x.Minus(y).Q(), new(big.Rat).Sub(a, b).RatString(); string(got) != want {
+			t.Fatalf("%s minus %s: %s, want %s", x.Q(), y.Q(), got, want)
+		}
+		over := new(big.Rat)
+		if b.Sign() != 0 {
+			over.Quo(a, b)
+		}
+		if got := x.Over(y).Q(); string(got) != over.RatString() {
+			t.Fatalf("%s over %s: %s, want %s", x.Q(), y.Q(), got, over.RatString())
+		}
+		if got, want := x.Bar().Q(), new(big.Rat).SetInt(a.Denom()).RatString(); string(got) != want {
+			t.Fatalf("below the bar of %s: %s, want %s", x.Q(), got, want)
+		}
 		if got, want := x.Compare(y), a.Cmp(b); got != want {
 			t.Fatalf("%s against %s: %d, want %d", x.Q(), y.Q(), got, want)
 		}
 		if got, want := x.Abs().Q(), new(big.Rat).Abs(a).RatString(); string(got) != want {
 			t.Fatalf("%s without its sign: %s, want %s", x.Q(), got, want)
+		}
+		if got, want := x.Opposite().Q(), new(big.Rat).Neg(a).RatString(); string(got) != want {
+			t.Fatalf("the opposite of %s: %s, want %s", x.Q(), got, want)
+		}
+		if x.IsZero() != (a.Sign() == 0) || !x.Minus(x).IsZero() || !x.Plus(x.Opposite()).IsZero() {
+			t.Fatalf("%s: is it 0?", x.Q())
 		}
 		if x.Sign() != a.Sign() {
 			t.Fatalf("sign of %s: %d", x.Q(), x.Sign())

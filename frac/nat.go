@@ -30,6 +30,13 @@ func word(w uint32) nat { return trim(nat{w}) }
 
 func isOne(x nat) bool { return len(x) == 1 && x[0] == 1 }
 
+func (x nat) bits() int {
+	if len(x) == 0 {
+		return 0
+	}
+	return wordBits*(len(x)-1) + bits.Len32(x[len(x)-1])
+}
+
 // compare answers -1, 0 or 1, as x is below y, the same, or above it.
 func compare(x, y nat) int {
 	if len(x) != len(y) {
@@ -79,6 +86,42 @@ func shrink(x nat, by uint32) (nat, uint32) {
 		rest %= uint64(by)
 	}
 	return trim(x), uint32(rest)
+}
+
+func plus(x, y nat) nat {
+	if len(x) < len(y) {
+		x, y = y, x
+	}
+	out := make(nat, len(x)+1)
+	var carry uint64
+	for i, w := range x {
+		carry += uint64(w)
+		if i < len(y) {
+			carry += uint64(y[i])
+		}
+		out[i] = uint32(carry)
+		carry >>= wordBits
+	}
+	out[len(x)] = uint32(carry)
+	return trim(out)
+}
+
+// minus takes y, which isn't above x, from x.
+func minus(x, y nat) nat {
+	out := slices.Clone(x)
+	var owed uint32
+	for i := range out {
+		take := uint64(owed)
+		if i < len(y) {
+			take += uint64(y[i])
+		}
+		owed = 0
+		if uint64(out[i]) < take {
+			owed = 1
+		}
+		out[i] -= uint32(take)
+	}
+	return trim(out)
 }
 
 func times(x, y nat) nat {
@@ -200,12 +243,85 @@ func giveBack(x, y nat) {
 	x[len(y)] += uint32(carry)
 }
 
+// commonDivisor is Euclid's way, in Lehmer's strides: many steps can be told by the highest bits alone, and are taken together.
 func commonDivisor(x, y nat) nat {
-	for len(y) > 0 {
-		_, rest := divide(x, y)
-		x, y = y, rest
+	if compare(x, y) < 0 {
+		x, y = y, x
 	}
-	return x
+	for y.bits() > strideBits {
+		s := strideOf(x, y)
+		if s.b == 0 {
+			_, rest := divide(x, y)
+			x, y = y, rest
+			continue
+		}
+		x, y = combine(x, y, s.a, s.b), combine(x, y, s.c, s.d)
+	}
+	if len(y) == 0 {
+		return x
+	}
+	_, rest := divide(x, y)
+	high, low := y.bitsFrom(0), rest.bitsFrom(0)
+	for low > 0 {
+		high, low = low, high%low
+	}
+	return trim(nat{uint32(high), uint32(high >> wordBits)})
+}
+
+const (
+	strideBits = 62      // the highest bits that are looked at: with what is added to them, an int64 holds them
+	strideMost = 1 << 30 // two words times as much, added, are held by one, too
+)
+
+// stride takes x and y to a x + b y and c x + d y, several of Euclid's steps ahead.
+type stride struct{ a, b, c, d int64 }
+
+// strideOf takes steps as long as it is sure of them, whatever x and y have below their highest bits; b is 0 if it isn't sure of one. y, which has more than strideBits bits, isn't above x.
+func strideOf(x, y nat) stride {
+	low := x.bits() - strideBits
+	high, next := x.bitsFrom(low), y.bitsFrom(low)
+	s := stride{1, 0, 0, 1}
+	for next+s.c != 0 && next+s.d != 0 {
+		quotient := (high + s.a) / (next + s.c)
+		if quotient >= strideMost || quotient != (high+s.b)/(next+s.d) {
+			break
+		}
+		c, d := s.a-quotient*s.c, s.b-quotient*s.d
+		if max(c, -c, d, -d) >= strideMost {
+			break
+		}
+		s = stride{s.c, s.d, c, d}
+		high, next = next, high-quotient*next
+	}
+	return s
+}
+
+// bitsFrom is what x has from that bit on: at most strideBits bits.
+func (x nat) bitsFrom(bit int) int64 {
+	lowest, shift := bit/wordBits, bit%wordBits
+	if lowest >= len(x) {
+		return 0
+	}
+	var out int64
+	for i := len(x) - 1; i > lowest; i-- {
+		out = out<<wordBits | int64(x[i])
+	}
+	return out<<(wordBits-shift) | int64(x[lowest]>>shift)
+}
+
+// combine is a x + b y, which is from 0 on, and isn't above x; y isn't, either.
+func combine(x, y nat, a, b int64) nat {
+	out := make(nat, len(x))
+	var carry int64
+	for i, w := range x {
+		carry += a * int64(w)
+		if i < len(y) {
+			carry += b * int64(y[i])
+		}
+		out[i] = uint32(carry)
+		carry >>= wordBits
+	}
+	return trim(out)
 }
 
 // readNat reads digits; noughts ahead of them cost no words.
