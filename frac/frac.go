@@ -42,20 +42,27 @@ func lowest(below bool, up, down nat) F {
 	if len(up) == 0 || len(down) == 0 {
 		return F{}
 	}
-	if isOne(down) {
-		return F{below, up, nil}
-	}
 	// What goes up without a rest, as it often does where equations are solved, needs no divisor looked for.
 	whole, rest := divide(up, down)
 	if len(rest) == 0 {
 		return F{below, whole, nil}
 	}
-	if common := commonDivisor(down, rest); !isOne(common) {
-		up, _ = divide(up, common)
-		down, _ = divide(down, common)
+	common := commonDivisor(down, rest)
+	return F{below, over(up, common), over(down, common)}
+}
+
+// barred is up over down, which have no common divisor.
+func barred(below bool, up, down nat) F {
+	if len(up) == 0 {
+		return F{}
+	}
+	if isOne(down) {
+		down = nil
 	}
 	return F{below, up, down}
 }
+
+func (x F) isWhole() bool { return len(x.down) == 0 }
 
 // Ten is ten to the power of n.
 func Ten(n int) F {
@@ -75,14 +82,6 @@ func (x F) bar() nat {
 
 // Bar is what stands below the bar, as a fraction: x times it is whole.
 func (x F) Bar() F { return F{up: x.bar()} }
-
-// timesBar is x times what stands below the bar of y.
-func timesBar(x nat, y F) nat {
-	if len(y.down) == 0 {
-		return x
-	}
-	return times(x, y.down)
-}
 
 // Q tells a fraction as a text.
 func (x F) Q() api.Q {
@@ -122,30 +121,54 @@ func (x F) Opposite() F {
 	return x
 }
 
-// Plus is the sum.
+// Plus is the sum. Divisors are looked for in the bars, which are shorter than what comes of them: of the new bar, the sum shares only what the two bars share (Knuth).
 func (x F) Plus(y F) F {
-	more, less := timesBar(x.up, y), timesBar(y.up, x)
-	bar := timesBar(x.bar(), y)
-	if x.below == y.below {
-		return lowest(x.below, plus(more, less), bar)
+	if x.isWhole() && y.isWhole() {
+		below, up := sum(x.below, x.up, y.below, y.up)
+		return F{below, up, nil}
 	}
-	if compare(more, less) < 0 {
-		return lowest(y.below, minus(less, more), bar)
+	shared := commonDivisor(x.bar(), y.bar())
+	xRest, yRest := over(x.bar(), shared), over(y.bar(), shared)
+	below, up := sum(x.below, times(x.up, yRest), y.below, times(y.up, xRest))
+	again := commonDivisor(up, shared)
+	return barred(below, over(up, again), times(xRest, over(y.bar(), again)))
+}
+
+// sum adds two whole numbers with signs; of 0 it isn't below 0.
+func sum(xBelow bool, x nat, yBelow bool, y nat) (below bool, out nat) {
+	if xBelow == yBelow {
+		return xBelow, plus(x, y)
 	}
-	return lowest(x.below, minus(more, less), bar)
+	if compare(x, y) < 0 {
+		return yBelow, minus(y, x)
+	}
+	out = minus(x, y)
+	return xBelow && len(out) > 0, out
 }
 
 // Minus is the difference.
 func (x F) Minus(y F) F { return x.Plus(y.Opposite()) }
 
-// Times is the product.
+// Times is the product. What is above one bar and what is below the other are shorter than what comes of them: divisors are looked for there.
 func (x F) Times(y F) F {
-	return lowest(x.below != y.below, times(x.up, y.up), timesBar(x.bar(), y))
+	below := x.below != y.below
+	if x.isWhole() && y.isWhole() {
+		return barred(below, times(x.up, y.up), nat{1})
+	}
+	first, second := commonDivisor(x.up, y.bar()), commonDivisor(y.up, x.bar())
+	up := times(over(x.up, first), over(y.up, second))
+	return barred(below, up, times(over(x.bar(), second), over(y.bar(), first)))
 }
 
 // Over is x divided by y; what is divided by 0 counts as 0.
 func (x F) Over(y F) F {
-	return lowest(x.below != y.below, timesBar(x.up, y), timesBar(y.up, x))
+	if x.isWhole() && y.isWhole() {
+		return lowest(x.below != y.below, x.up, y.up)
+	}
+	if y.IsZero() {
+		return F{}
+	}
+	return x.Times(barred(y.below, y.bar(), y.up))
 }
 
 // Compare answers -1, 0 or 1, as x is below y, the same, or above it.

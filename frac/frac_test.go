@@ -189,8 +189,12 @@ func TestCommonDivisorsOfFibonacci(t *testing.T) {
 	}
 }
 
+// someFraction is now long, now short: bars of short ones often share something.
 func someFraction(r *rand.Rand) (F, *big.Rat) {
 	up, down := someNat(r, 4), someNat(r, 3)
+	if r.Intn(2) == 0 {
+		up, down = word(uint32(r.Intn(30))), word(uint32(r.Intn(13)))
+	}
 	if len(down) == 0 {
 		down = nat{1}
 	}
@@ -204,7 +208,7 @@ func someFraction(r *rand.Rand) (F, *big.Rat) {
 
 func TestFractionsAgainstAnotherReckoner(t *testing.T) {
 	r := rand.New(rand.NewSource(2))
-	for range 5000 {
+	for range 10000 {
 		x, a := someFraction(r)
 		y, b := someFraction(r)
 		if string(x.Q()) != a.RatString() {

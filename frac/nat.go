@@ -176,6 +176,15 @@ func divide(x, y nat) (nat, nat) {
 	return trim(quotient), lower(rest[:len(y)], shift)
 }
 
+// over is x divided by a divisor of it.
+func over(x, divisor nat) nat {
+	if isOne(divisor) {
+		return x
+	}
+	quotient, _ := divide(x, divisor)
+	return quotient
+}
+
 // raise shifts x up by less than a word's bits, into one word more than x has.
 func raise(x nat, shift int) nat {
 	out := make(nat, len(x)+1)

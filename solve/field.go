@@ -30,3 +30,18 @@ func Fractions() Field[frac.F] {
 		Size:   frac.F.Bits,
 	}
 }
+
+// Complexes is what can be done with complex fractions.
+func Complexes() Field[frac.Z] {
+	return Field[frac.Z]{
+		One:    frac.Z{Re: frac.Of("1")},
+		Of:     func(x frac.F) frac.Z { return frac.Z{Re: x} },
+		Plus:   frac.Z.Plus,
+		Minus:  frac.Z.Minus,
+		Times:  frac.Z.Times,
+		Over:   frac.Z.Over,
+		IsZero: frac.Z.IsZero,
+		Bar:    frac.Z.Bar,
+		Size:   frac.Z.Bits,
+	}
+}

@@ -145,3 +145,22 @@ func TestLawsOfWhatChanges(t *testing.T) {
 		t.Errorf("%v, %v, %d", volts, amps, code)
 	}
 }
+
+// (1 + i) x + 2 y = 1, x - i y = 1/2 i.
+func TestRowsOfComplexFractions(t *testing.T) {
+	z := func(re, im api.Q) frac.Z { return frac.Z{Re: frac.Of(re), Im: frac.Of(im)} }
+	rows := [][]frac.Z{{z("1", "1"), z("2", "0"), z("1", "0")}, {z("1", "0"), z("0", "-1"), z("0", "1/2")}}
+	got, code := Rows(Complexes(), rows)
+	if code != api.OK || len(got) != 2 || got[0].Z() != (api.Z{Re: "1", Im: "1"}) || got[1].Z() != (api.Z{Re: "1/2", Im: "-1"}) {
+		t.Errorf("%v, %d", got, code)
+	}
+	// i times one row is the other.
+	rows[1] = []frac.Z{z("-1", "1"), z("0", "2"), z("0", "1")}
+	if _, code = Rows(Complexes(), rows); code != api.ErrFree {
+		t.Errorf("%d, want %d", code, api.ErrFree)
+	}
+	rows[1][2] = z("1", "0")
+	if _, code = Rows(Complexes(), rows); code != api.ErrNone {
+		t.Errorf("%d, want %d", code, api.ErrNone)
+	}
+}
