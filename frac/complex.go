@@ -5,8 +5,14 @@ import "voltaic/api"
 // Z is a complex fraction; the zero value is 0.
 type Z struct{ Re, Im F }
 
+// OfZ reads a complex fraction; of its parts, what is no fraction counts as 0.
+func OfZ(z api.Z) Z { return Z{Of(z.Re), Of(z.Im)} }
+
 // Z tells a complex fraction as texts.
 func (x Z) Z() api.Z { return api.Z{Re: x.Re.Q(), Im: x.Im.Q()} }
+
+// Nearest has the nearest floats of both parts.
+func (x Z) Nearest() complex128 { return complex(x.Re.Nearest(), x.Im.Nearest()) }
 
 // IsZero tells whether x is 0.
 func (x Z) IsZero() bool { return x.Re.IsZero() && x.Im.IsZero() }

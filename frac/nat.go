@@ -196,6 +196,14 @@ func raise(x nat, shift int) nat {
 	return out
 }
 
+// shifted is x times two to the power of n, which isn't below 0.
+func shifted(x nat, n int) nat {
+	if n == 0 {
+		return x
+	}
+	return trim(append(make(nat, n/wordBits), raise(x, n%wordBits)...))
+}
+
 // lower shifts x down by less than a word's bits.
 func lower(x nat, shift int) nat {
 	out := make(nat, len(x))
