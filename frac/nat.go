@@ -88,6 +88,15 @@ func shrink(x nat, by uint32) (nat, uint32) {
 	return trim(x), uint32(rest)
 }
 
+// left is what is left over when x is divided by a word that isn't 0.
+func (x nat) left(by uint32) uint32 {
+	var rest uint64
+	for i := len(x) - 1; i >= 0; i-- {
+		rest = (rest<<wordBits | uint64(x[i])) % uint64(by)
+	}
+	return uint32(rest)
+}
+
 func plus(x, y nat) nat {
 	if len(x) < len(y) {
 		x, y = y, x

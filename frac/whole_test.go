@@ -64,3 +64,41 @@ func TestPartedAddsUp(t *testing.T) {
 		}
 	}
 }
+
+func TestLeft(t *testing.T) {
+	for _, c := range []struct {
+		x     api.Q
+		prime uint32
+		want  uint32
+		ok    bool
+	}{
+		{"0", 7, 0, true}, {"9", 7, 2, true}, {"-9", 7, 5, true}, {"14", 7, 0, true}, {"-14", 7, 0, true},
+		{"1/2", 7, 4, true}, {"-1/2", 7, 3, true}, {"7/2", 7, 0, true}, {"1/7", 7, 0, false}, {"-3/14", 7, 0, false},
+		{"1/3", 2, 1, true}, {"1/2", 2, 0, false}, {"4294967291", 4294967291, 0, true}, {"-1", 4294967291, 4294967290, true}, {"1/8589934582", 4294967291, 0, false},
+	} {
+		if got, ok := Of(c.x).Left(c.prime); got != c.want || ok != c.ok {
+			t.Errorf("%s counted up to %d: %d, %v, want %d, %v", c.x, c.prime, got, ok, c.want, c.ok)
+		}
+	}
+}
+
+func TestLeftAgainstAnotherReckoner(t *testing.T) {
+	r := rand.New(rand.NewSource(7))
+	for range 2000 {
+		x, xRat := someFraction(r)
+		prime := []uint32{2, 3, 5, 65537, 2147483647, 4294967291}[r.Intn(6)]
+		whole := big.NewInt(int64(prime))
+		turned := new(big.Int).ModInverse(xRat.Denom(), whole)
+		got, ok := x.Left(prime)
+		if ok != (turned != nil) {
+			t.Fatalf("%v counted up to %d: %v", xRat, prime, ok)
+		}
+		if !ok {
+			continue
+		}
+		want := new(big.Int).Mul(xRat.Num(), turned)
+		if want.Mod(want, whole); want.Cmp(big.NewInt(int64(got))) != 0 {
+			t.Fatalf("%v counted up to %d: %d, want %v", xRat, prime, got, want)
+		}
+	}
+}

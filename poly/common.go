@@ -22,7 +22,7 @@ func Common(x, y P) P {
 		return x.Plus(y).Plain()
 	}
 	x, y = x.Plain(), y.Plain()
-	if len(x) == 1 || len(y) == 1 {
+	if mostShared(x, y) == 0 {
 		return one()
 	}
 	f := solve.Fractions()

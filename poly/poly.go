@@ -79,11 +79,22 @@ func (x P) Plus(y P) P {
 // Minus is the difference.
 func (x P) Minus(y P) P { return x.Plus(y.Opposite()) }
 
-// Times is the product.
+// bar is the least whole number that makes x's numbers whole, when they are multiplied by it.
+func (x P) bar() frac.F {
+	bar := frac.Of("1")
+	for _, number := range x {
+		bar = bar.Times(number.Times(bar).Bar())
+	}
+	return bar
+}
+
+// Times is the product. Both are made whole ahead of it, so that divisors of numbers are looked for once for each number of the product, not at each step.
 func (x P) Times(y P) P {
 	if x.IsZero() || y.IsZero() {
 		return nil
 	}
+	xBar, yBar := x.bar(), y.bar()
+	x, y = x.Scaled(xBar), y.Scaled(yBar)
 	out := make(P, len(x)+len(y)-1)
 	for i, a := range x {
 		if a.IsZero() {
@@ -93,7 +104,7 @@ func (x P) Times(y P) P {
 			out[i+k] = out[i+k].Plus(a.Times(b))
 		}
 	}
-	return out
+	return out.each(func(number frac.F) frac.F { return number.Over(xBar.Times(yBar)) })
 }
 
 // Parted tells how often y, which isn't 0, goes into x, and what is left over, of fewer powers than y.
@@ -110,6 +121,15 @@ func (x P) Parted(y P) (often, rest P) {
 		}
 	}
 	return often, trim(rest)
+}
+
+// Without is x divided by a divisor of it, which isn't 0.
+func (x P) Without(divisor P) P {
+	if len(divisor) == 1 {
+		return x.Scaled(frac.Of("1").Over(divisor.Last()))
+	}
+	often, _ := x.Parted(divisor)
+	return often
 }
 
 // Value is what x is at a place, which may be a number of another kind.

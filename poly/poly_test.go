@@ -66,6 +66,22 @@ func TestPolynomialsParted(t *testing.T) {
 	}
 }
 
+func TestPolynomialsWithoutDivisors(t *testing.T) {
+	wantP(t, "without a number", p("1 -2 3").Without(p("2")), "1/2 -1 3/2")
+	wantP(t, "without a polynomial", p("-1 0 1").Without(p("1/2 1/2")), "-2 2")
+	wantP(t, "without itself", p("5 7").Without(p("5 7")), "1")
+	wantP(t, "0", P(nil).Without(p("5 7")), "")
+}
+
+func TestBarOfPolynomials(t *testing.T) {
+	for text, want := range map[string]api.Q{"": "1", "3 0 -4": "1", "1/2 0 1/3": "6", "3/4 5/6 -1/12": "12"} {
+		if got := p(text).bar(); got.Q() != want {
+			t.Errorf("%s: %s, want %s", text, got.Q(), want)
+		}
+	}
+	wantP(t, "times, of fractions", p("1/2 2/3").Times(p("3/5 0 -6/7")), "3/10 2/5 -3/7 -4/7")
+}
+
 func TestValue(t *testing.T) {
 	if got := Value(solve.Fractions(), p("1 -2 1/3"), frac.Of("3/2")); got.Q() != "-5/4" {
 		t.Error(got.Q())
@@ -134,6 +150,60 @@ func TestCommonAgainstEuclid(t *testing.T) {
 	}
 	if longer < 1000 {
 		t.Errorf("only %d have common divisors", longer)
+	}
+}
+
+// Polynomials that are told apart by what is left of their numbers, and those that aren't: their last numbers, or what is below a bar, are a multiple of the prime, or they are the same but for multiples of it.
+func TestCommonWherePrimeIsZero(t *testing.T) {
+	for _, c := range []struct{ x, y, want string }{
+		{"1 4294967291", "1 1", "1"},
+		{"1 1", "1 4294967291", "1"},
+		{"1 4294967292 4294967291", "1 1", "1 1"},
+		{"1 4294967292 4294967291", "3 12884901874 4294967291", "1 4294967291"},
+		{"1/4294967291 1", "1 4294967291", "1 4294967291"},
+		{"1/4294967291 1", "1 1", "1"},
+		{"1 1", "4294967292 1", "1"},
+		{"1 2 1", "4294967292 4294967293 1", "1 1"},
+		{"-4294967291 1", "0 1", "1"},
+		{"-4294967291 1", "0 -4294967291 1", "-4294967291 1"},
+	} {
+		got := Common(p(c.x), p(c.y))
+		if !slices.Equal(got.Q(), words(c.want)) && !slices.Equal(got.Opposite().Q(), words(c.want)) {
+			t.Errorf("Common of %s and %s: %v, want %s", c.x, c.y, got.Q(), c.want)
+		}
+	}
+	wantR(t, "what goes up, but for a multiple of the prime", over("4294967292 2 1", "1 1"), "4294967292 2 1", "1 1")
+	wantR(t, "what goes up, below the bar a multiple of the prime", over("0 1 1", "0 4294967291"), "1/4294967291 1/4294967291", "1")
+	wantR(t, "what goes up, above the bar a multiple of the prime", over("0 1 4294967291", "0 1"), "1 4294967291", "1")
+}
+
+// All that is told of them quickly is so.
+func TestQuickAgainstEuclid(t *testing.T) {
+	r := rand.New(rand.NewSource(4))
+	apart, more := 0, 0
+	for range 3000 {
+		shared := someP(r, 3)
+		x, y := shared.Times(someP(r, 4)), shared.Times(someP(r, 4))
+		if x.IsZero() || y.IsZero() {
+			continue
+		}
+		degree := len(euclid(x, y)) - 1
+		if got := mostShared(x, y); got < degree {
+			t.Fatalf("%v and %v share no more than %d, but share %d", x.Q(), y.Q(), got, degree)
+		} else if got == 0 {
+			apart++
+		}
+		if _, rest := x.Parted(y); rest.IsZero() && !mayGoInto(y, x) {
+			t.Fatalf("%v goes into %v", y.Q(), x.Q())
+		} else if !rest.IsZero() && !mayGoInto(y, x) {
+			more++
+		}
+	}
+	if apart < 300 || more < 300 {
+		t.Errorf("only %d are told to be apart, and %d not to go up", apart, more)
+	}
+	if !mayGoInto(p("1 1"), nil) || mayGoInto(p("1 1"), p("3")) {
+		t.Error("what goes into 0, and what into a number?")
 	}
 }
 
@@ -214,6 +284,15 @@ func TestReckoningWithRatios(t *testing.T) {
 	wantR(t, "0 over", R{}.Over(x), "", "1")
 	wantR(t, "opposite", y.Opposite(), "0 -1", "1 1")
 	wantR(t, "whole ones", over("1 1", "1").Times(over("-1 1", "2")), "-1/2 0 1/2", "1")
+	// What both share below the bar, and what the sum shares with it.
+	wantR(t, "a bar in common", over("1", "0 1 1").Plus(over("1", "0 -1 1")), "2", "-1 0 1")
+	wantR(t, "the same bar", over("1", "1 1").Plus(over("0 1", "1 1")), "1", "1")
+	wantR(t, "to 0 over a bar", over("1", "1 1").Minus(over("2", "2 2")), "", "1")
+	wantR(t, "0 and one with a bar", R{}.Plus(over("1", "1 1")), "1", "1 1")
+	wantR(t, "0 times one with a bar", R{}.Times(over("1", "1 1")), "", "1")
+	wantR(t, "one with a bar times 0", over("1", "1 1").Times(R{}), "", "1")
+	wantR(t, "one with a bar over its own", over("2", "1 1").Over(over("1", "3 3")), "6", "1")
+	wantR(t, "a whole one over one with a bar", over("2 2", "1").Over(over("4", "1 1")), "1/2 1 1/2", "1")
 	f := Ratios()
 	wantR(t, "a fraction", f.Of(frac.Of("-2/3")), "-2/3", "1")
 	if !f.IsZero(f.Of(frac.F{})) || f.IsZero(f.One) {
@@ -268,5 +347,23 @@ func TestLawsOfRatios(t *testing.T) {
 		if made := x.Times(bar); bar.IsZero() || !made.isWhole() || made.Bar().Size() != 2 {
 			t.Fatalf("%v times %v: %v", x.Ratio(), bar.Ratio(), made.Ratio())
 		}
+	}
+}
+
+// A volt behind a resistor, and so many capacitors that there are more parts than a net is allowed to have.
+func TestVolts(t *testing.T) {
+	n := api.Net{Nodes: 3, Parts: []api.Part{{Kind: api.V, A: 1, Value: "1"}, {Kind: api.R, A: 1, B: 2, Value: "2"}, {Kind: api.C, A: 2, Value: "3"}}}
+	for range api.MaxParts {
+		n.Parts = append(n.Parts, api.Part{Kind: api.C, A: 2, Value: "3"})
+	}
+	volts, code := Volts(n)
+	if code != api.OK || len(volts) != 3 {
+		t.Fatalf("%v, %d", volts, code)
+	}
+	wantR(t, "ground", volts[0], "", "1")
+	wantR(t, "source", volts[1], "1", "1")
+	wantR(t, "capacitors", volts[2], "1/102", "1/102 1")
+	if volts, code = Volts(api.Net{Nodes: 2}); code != api.ErrFree || volts != nil {
+		t.Errorf("%v, %d", volts, code)
 	}
 }

@@ -49,14 +49,21 @@ func (x R) isWhole() bool { return len(x.down) == 0 }
 // lowest is up over down, which isn't 0.
 func lowest(up, down P) R {
 	// What goes up without a rest, as it often does where equations are solved, needs no divisor looked for.
-	whole, rest := up.Parted(down)
-	if rest.IsZero() {
-		return R{up: whole}
+	if mayGoInto(down, up) {
+		if whole, rest := up.Parted(down); rest.IsZero() {
+			return R{up: whole}
+		}
 	}
 	shared := Common(up, down)
-	up, _ = up.Parted(shared)
-	down, _ = down.Parted(shared)
+	return barred(up.Without(shared), down.Without(shared))
+}
+
+// barred is up over down, which isn't 0; they have no common divisor.
+func barred(up, down P) R {
 	last := frac.Of("1").Over(down.Last())
+	if len(down) == 1 {
+		return R{up: up.Scaled(last)}
+	}
 	return R{up.Scaled(last), down.Scaled(last)}
 }
 
@@ -66,23 +73,29 @@ func (x R) IsZero() bool { return x.up.IsZero() }
 // Opposite is x with the other sign.
 func (x R) Opposite() R { return R{x.up.Opposite(), x.down} }
 
-// Plus is the sum.
+// Plus is the sum. As with fractions of numbers (Knuth), divisors are looked for in what is below the bars, which is shorter than what comes of it: of the new bar, the sum shares only what the two bars share.
 func (x R) Plus(y R) R {
 	if x.isWhole() && y.isWhole() {
 		return R{up: x.up.Plus(y.up)}
 	}
-	return lowest(x.up.Times(y.Down()).Plus(y.up.Times(x.Down())), x.Down().Times(y.Down()))
+	shared := Common(x.Down(), y.Down())
+	xRest, yRest := x.Down().Without(shared), y.Down().Without(shared)
+	up := x.up.Times(yRest).Plus(y.up.Times(xRest))
+	again := Common(up, shared)
+	return barred(up.Without(again), xRest.Times(y.Down().Without(again)))
 }
 
 // Minus is the difference.
 func (x R) Minus(y R) R { return x.Plus(y.Opposite()) }
 
-// Times is the product.
+// Times is the product. Divisors are looked for above the one bar and below the other, as in sums.
 func (x R) Times(y R) R {
 	if x.isWhole() && y.isWhole() {
 		return R{up: x.up.Times(y.up)}
 	}
-	return lowest(x.up.Times(y.up), x.Down().Times(y.Down()))
+	first, second := Common(x.up, y.Down()), Common(y.up, x.Down())
+	up := x.up.Without(first).Times(y.up.Without(second))
+	return barred(up, x.Down().Without(second).Times(y.Down().Without(first)))
 }
 
 // Over is x divided by y; what is divided by 0 counts as 0.
@@ -90,16 +103,15 @@ func (x R) Over(y R) R {
 	if y.IsZero() {
 		return R{}
 	}
-	return lowest(x.up.Times(y.Down()), x.Down().Times(y.up))
+	if x.isWhole() && y.isWhole() {
+		return lowest(x.up, y.up)
+	}
+	return x.Times(barred(y.Down(), y.up))
 }
 
 // Bar is what makes x a polynomial of whole numbers, when x is multiplied by it.
 func (x R) Bar() R {
-	bar := frac.Of("1")
-	for _, number := range x.up {
-		bar = bar.Times(number.Times(bar).Bar())
-	}
-	return R{up: x.Down().Scaled(bar)}
+	return R{up: x.Down().Scaled(x.up.bar())}
 }
 
 // Size is how much there is to reckon with x: of no fraction but 0 it is less than of 1.
