@@ -1,5 +1,8 @@
 package frac
 
+// OfWord is a whole number that a word holds.
+func OfWord(w uint32) F { return F{up: word(w)} }
+
 // Common is the greatest fraction of which x and y are whole multiples; of 0 and y it is y without its sign.
 func (x F) Common(y F) F {
 	shared := commonDivisor(x.bar(), y.bar())

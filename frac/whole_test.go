@@ -8,6 +8,14 @@ import (
 	"voltaic/api"
 )
 
+func TestOfWord(t *testing.T) {
+	for w, want := range map[uint32]api.Q{0: "0", 1: "1", 12: "12", maxWord: "4294967295"} {
+		if got := OfWord(w); got.Q() != want || got.IsZero() != (w == 0) {
+			t.Errorf("OfWord(%d): %s", w, got.Q())
+		}
+	}
+}
+
 func TestCommon(t *testing.T) {
 	for _, c := range []struct{ x, y, want api.Q }{
 		{"0", "0", "0"}, {"0", "-3/2", "3/2"}, {"5", "0", "5"}, {"6", "4", "2"}, {"-6", "4", "2"}, {"7", "-1", "1"},

@@ -14,11 +14,7 @@ type P []frac.F
 
 // Of reads a polynomial; noughts at its end don't count.
 func Of(l []api.Q) P {
-	out := make(P, len(l))
-	for i, q := range l {
-		out[i] = frac.Of(q)
-	}
-	return trim(out)
+	return Filled(len(l), func(power int) frac.F { return frac.Of(l[power]) })
 }
 
 // trim takes noughts off the end, so that one polynomial has one form.
@@ -52,13 +48,18 @@ func (x P) number(power int) frac.F {
 	return x[power]
 }
 
-// each is x with something done to each of its numbers.
-func (x P) each(do func(number frac.F) frac.F) P {
-	out := make(P, len(x))
-	for i, number := range x {
-		out[i] = do(number)
+// Filled has for each power, as many as there are, what is told of it.
+func Filled(powers int, of func(power int) frac.F) P {
+	out := make(P, powers)
+	for power := range out {
+		out[power] = of(power)
 	}
 	return trim(out)
+}
+
+// each is x with something done to each of its numbers.
+func (x P) each(do func(number frac.F) frac.F) P {
+	return Filled(len(x), func(power int) frac.F { return do(x[power]) })
 }
 
 // Scaled is x times a fraction.
@@ -69,11 +70,7 @@ func (x P) Opposite() P { return x.each(frac.F.Opposite) }
 
 // Plus is the sum.
 func (x P) Plus(y P) P {
-	out := make(P, max(len(x), len(y)))
-	for i := range out {
-		out[i] = x.number(i).Plus(y.number(i))
-	}
-	return trim(out)
+	return Filled(max(len(x), len(y)), func(power int) frac.F { return x.number(power).Plus(y.number(power)) })
 }
 
 // Minus is the difference.
