@@ -24,13 +24,13 @@ func (x P) left(y P) P {
 		if last.Sign() < 0 {
 			by = by.Opposite()
 		}
-		x = x.Scaled(last.Abs()).Minus(y.Scaled(by).raised(len(x) - len(y)))
+		x = x.Scaled(last.Abs()).Minus(y.Scaled(by).Raised(len(x) - len(y)))
 	}
 	return x
 }
 
-// raised is x, which isn't 0, times a power of s.
-func (x P) raised(power int) P { return append(make(P, power), x...) }
+// Raised is x, which isn't 0, times a power of s.
+func (x P) Raised(power int) P { return append(make(P, power), x...) }
 
 // RealRoots counts the real roots of x, which isn't 0: each as often as it is one.
 func RealRoots(x P) int {
