@@ -36,12 +36,21 @@ func Laws[N any](f Field[N], s N) func(p api.Part) Law[N] {
 
 // Net tells of each node how far it is above the ground, and of each part what flows through it from A to B, where law says what holds of each. ErrNone if there is no answer, ErrFree if there are more than one. Nothing may be wrong with the net, but it may have more parts than it is allowed to have.
 func Net[N any](f Field[N], n api.Net, law func(p api.Part) Law[N]) (volts, amps []N, code api.Errno) {
+	var laws []Law[N]
+	for _, p := range n.Parts {
+		laws = append(laws, law(p))
+	}
+	return Ruled(f, n, laws)
+}
+
+// Ruled tells the same where each part has a law of its own.
+func Ruled[N any](f Field[N], n api.Net, laws []Law[N]) (volts, amps []N, code api.Errno) {
 	var rows [][]N
 	for node := range n.Nodes {
 		rows = append(rows, nodeRow(f, n, node))
 	}
-	for i, p := range n.Parts {
-		rows = append(rows, partRow(f, n, i, law(p)))
+	for i, law := range laws {
+		rows = append(rows, partRow(f, n, i, law))
 	}
 	found, code := Rows(f, rows)
 	if code != api.OK {
