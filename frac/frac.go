@@ -182,12 +182,14 @@ func (x F) Compare(y F) int {
 // Decimal tells x without its sign as a decimal without needless noughts, if it ends and has at most so many bytes.
 func (x F) Decimal(most int) (string, bool) {
 	bar := x.bar()
+	if !dividesTens(bar) {
+		return "", false
+	}
 	whole, rest := divide(x.up, bar)
 	out := []byte(whole.text())
 	if len(rest) > 0 {
 		out = append(out, '.')
 	}
-	// One that doesn't end is too long some time: nothing else need be known of what is below the bar.
 	for len(rest) > 0 && len(out) < most {
 		var digit nat
 		digit, rest = divide(grow(rest, 10, 0), bar)

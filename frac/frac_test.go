@@ -83,6 +83,27 @@ func TestDecimal(t *testing.T) {
 	}
 }
 
+func TestDecimalsEndOfTwosAndFivesAlone(t *testing.T) {
+	for _, twos := range []int64{0, 1, 2, 30, 31, 32, 33, 62, 63, 64, 100} {
+		for _, fives := range []int64{0, 1, 12, 13, 14, 26, 27, 50} {
+			bar := new(big.Int).Mul(new(big.Int).Exp(big.NewInt(2), big.NewInt(twos), nil), new(big.Int).Exp(big.NewInt(5), big.NewInt(fives), nil))
+			for _, other := range []int64{1, 3, 7, 11, 4294967291, 3 * 4294967291} {
+				q := api.Q("1/" + new(big.Int).Mul(bar, big.NewInt(other)).String())
+				text, ok := Of(q).Decimal(300)
+				if ok != (other == 1) {
+					t.Fatalf("%s as a decimal: %q, %v", q, text, ok)
+				}
+				if !ok {
+					continue
+				}
+				if back, right := new(big.Rat).SetString(text); !right || back.Cmp(new(big.Rat).SetFrac(big.NewInt(1), bar)) != 0 {
+					t.Fatalf("%s as a decimal: %q", q, text)
+				}
+			}
+		}
+	}
+}
+
 // someNat draws words among which the edges of a word are frequent: guesses of a quotient's digits are wrong only there.
 func someNat(r *rand.Rand, most int) nat {
 	x := make(nat, r.Intn(most+1))

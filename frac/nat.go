@@ -97,6 +97,17 @@ func (x nat) left(by uint32) uint32 {
 	return uint32(rest)
 }
 
+// dividesTens tells whether x, which isn't 0, divides a power of ten: then nothing but twos and fives is in it. The greatest powers of these that a word holds are taken out first, so that long numbers are gone through less often.
+func dividesTens(x nat) bool {
+	rest := slices.Clone(x)
+	for _, by := range [...]uint32{1 << 31, 2, 1220703125, 5} {
+		for rest.left(by) == 0 {
+			rest, _ = shrink(rest, by)
+		}
+	}
+	return isOne(rest)
+}
+
 func plus(x, y nat) nat {
 	if len(x) < len(y) {
 		x, y = y, x
