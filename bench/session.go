@@ -35,14 +35,15 @@ func Session(text string) string {
 		return tooLong + "\n"
 	}
 	var d desk
-	var out strings.Builder
+	// Many sessions ask each verb about once: the table says how much room that takes, and nothing of what is told.
+	verbs.once.Do(fillVerbs)
+	told := make([]string, 0, len(verbs.list))
 	for rest := linesOf(text); len(rest) > 0; {
-		var told string
-		told, rest = d.next(rest)
-		out.WriteString(told)
-		out.WriteByte('\n')
+		var line string
+		line, rest = d.next(rest)
+		told = append(told, line+"\n")
 	}
-	return out.String()
+	return strings.Join(told, "")
 }
 
 // linesOf has no line of an empty text, but one, which is empty, of a line feed.

@@ -536,3 +536,80 @@ func TestVerbs(t *testing.T) {
 		}
 	}
 }
+
+// The table of verbs
+
+// withTable puts other verbs into the table, and the right ones back.
+func withTable(list []verb, then func()) {
+	verbs.once.Do(fillVerbs) // so that no session fills it any more
+	right := verbs.list
+	defer func() { verbs.list = right }()
+	verbs.list = list
+	then()
+}
+
+// wrongVerbs have each verb's word, but nothing else that is right.
+func wrongVerbs() []verb {
+	list := allVerbs()
+	for i := range list {
+		list[i].needsNet = !list[i].needsNet
+		list[i].take = func([]string) (question, bool) { return question{}, true }
+		list[i].tell = func(question) (string, api.Fault) { return "wrong", api.Fault{} }
+	}
+	return append(list, verb{word: "what", take: list[0].take, tell: list[0].tell})
+}
+
+func TestSessionHangsOnNoTable(t *testing.T) {
+	lines := slices.Concat(ofEach(), []string{"sides 1 0 1", "what", "", "seen", "volts 1", "sides"})
+	var texts, told []string
+	for _, net := range []string{dividerNet, thirdsNet, ladderNet, diodesNet, freeNet, noneNet, "nodes 9"} {
+		text := strings.Join(lines, "\n") + "\n" + laid(net, lines...)
+		texts, told = append(texts, text), append(told, Session(text))
+	}
+	wrong := wrongVerbs()
+	for _, list := range [][]verb{nil, {}, make([]verb, 30), wrong, wrong[:1], slices.Repeat(wrong, 50)} {
+		withTable(list, func() {
+			for i, text := range texts {
+				wantTold(t, text, told[i])
+			}
+			wantTold(t, "", "")
+			wantTold(t, strings.Repeat("x", api.MaxText+1), "too long\n")
+		})
+	}
+}
+
+func TestTableOfVerbsIsFilledOnce(t *testing.T) {
+	Session(laid(dividerNet, ofEach()...))
+	first := verbs.list
+	Session(laid(dividerNet, ofEach()...))
+	if len(verbs.list) != len(first) || &verbs.list[0] != &first[0] {
+		t.Errorf("the table was filled again")
+	}
+	var words []string
+	for _, v := range verbs.list {
+		words = append(words, v.word)
+		wantSameVerb(t, v)
+	}
+	if want := []string{"volts", "power", "seen", "diodes", "function", "ladder", "sides"}; !slices.Equal(words, want) {
+		t.Errorf("the table has %q, want %q", words, want)
+	}
+}
+
+// wantSameVerb asks for what the verb with this word tells in a session.
+func wantSameVerb(t *testing.T, v verb) {
+	t.Helper()
+	known, is := verbOf(v.word)
+	if !is || known.needsNet != v.needsNet {
+		t.Errorf("%q: %v, in the table %v", v.word, known, v)
+	}
+	for _, words := range [][]string{nil, {"1"}, {"2", "0"}, {"1", "0", "1"}} {
+		q, wanted := v.take(words)
+		want, wantWanted := known.take(words)
+		q.net, want.net = divider("10"), divider("10")
+		told, f := v.tell(q)
+		wantText, wantFault := known.tell(want)
+		if wanted != wantWanted || told != wantText || f != wantFault {
+			t.Errorf("%q of %q: %v, %q, %v, in a session %v, %q, %v", v.word, words, wanted, told, f, wantWanted, wantText, wantFault)
+		}
+	}
+}

@@ -29,13 +29,16 @@ type verb struct {
 	tell     func(q question) (string, api.Fault)
 }
 
-// verbTable is filled the first time that a verb is looked for.
+// verbTable is filled the first time that it is asked for.
 type verbTable struct {
 	once sync.Once
 	list []verb
 }
 
+// What a session tells hangs on no table that is kept: its verbs come from allVerbs, and this stands beside it.
 var verbs verbTable
+
+func fillVerbs() { verbs.list = allVerbs() }
 
 func allVerbs() []verb {
 	return []verb{
@@ -50,8 +53,7 @@ func allVerbs() []verb {
 }
 
 func verbOf(word string) (verb, bool) {
-	verbs.once.Do(func() { verbs.list = allVerbs() })
-	for _, v := range verbs.list {
+	for _, v := range allVerbs() {
 		if v.word == word {
 			return v, true
 		}
